@@ -1,14 +1,14 @@
 """Rooms led on to others by faults, so that they tell but what is unlike there."""
 
 from pressedtables.errors import BadDeep, BadFaults, TooMany
-from pressedtables.words import check_machine, is_below
+from pressedtables.words import check_machine, is_below, is_goal
 
 MOST_DEEP = 4
 MOST_TRIED_ROOMS = 5
 
 
 def is_fault(fault, room, rooms):
-    return fault is None or (is_below(fault, rooms) and fault != room)
+    return is_goal(fault, rooms) and fault != room
 
 
 def is_in_ring(faults, room):

@@ -1,7 +1,7 @@
 """Rows of entries laid over one another in one row of cells."""
 
 from pressedtables.errors import BadRows, TooMany
-from pressedtables.words import MOST_LETTERS, MOST_ROOMS, is_below
+from pressedtables.words import MOST_LETTERS, MOST_ROOMS, is_below, is_goal
 
 MOST_FILLED = 4
 
@@ -10,7 +10,7 @@ def is_entry(entry):
     if not isinstance(entry, tuple) or len(entry) != 2:
         return False
     letter, goal = entry
-    return is_below(letter, MOST_LETTERS) and (goal is None or is_below(goal, MOST_ROOMS))
+    return is_below(letter, MOST_LETTERS) and is_goal(goal, MOST_ROOMS)
 
 
 def is_row_of_entries(row):

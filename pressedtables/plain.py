@@ -17,10 +17,7 @@ def ending(machine, room):
     return "good" if room in machine[2] else "bad"
 
 
-def run(machine, word):
-    """Tell the rooms come to, from room 0 on, and how the word ends."""
-    check_machine(machine)
-    check_word(word, machine[0])
+def walked(machine, word):
     rooms = [0]
     for letter in word:
         room = next_room(machine, rooms[-1], letter)
@@ -28,6 +25,13 @@ def run(machine, word):
             return rooms, ending(machine, None)
         rooms.append(room)
     return rooms, ending(machine, rooms[-1])
+
+
+def run(machine, word):
+    """Tell the rooms come to, from room 0 on, and how the word ends."""
+    check_machine(machine)
+    check_word(word, machine[0])
+    return walked(machine, word)
 
 
 def apart(machine, other):

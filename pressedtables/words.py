@@ -1,6 +1,6 @@
 """What may be handed in: numbers, machines and words."""
 
-from pressedtables.errors import BadMachine, BadWord
+from pressedtables.errors import BadLetter, BadMachine, BadRoom, BadWord
 
 MOST_LETTERS = 30
 MOST_ROOMS = 40
@@ -17,14 +17,19 @@ def is_below(value, limit):
     return is_whole(value) and 0 <= value < limit
 
 
+def is_goal(value, rooms):
+    """A next room, or none."""
+    return value is None or is_below(value, rooms)
+
+
 def is_letter_count(value):
     return is_whole(value) and 1 <= value <= MOST_LETTERS
 
 
-def is_row(row, letters, rooms):
-    if not isinstance(row, tuple) or len(row) != letters:
+def are_goals(goals, count, rooms):
+    if not isinstance(goals, tuple) or len(goals) != count:
         return False
-    return all(goal is None or is_below(goal, rooms) for goal in row)
+    return all(is_goal(goal, rooms) for goal in goals)
 
 
 def are_finals(finals, rooms):
@@ -42,7 +47,7 @@ def check_table(table, letters):
     """A 41st row is no room's, so no row may tell it as a next room."""
     rooms = min(len(table), MOST_ROOMS)
     for number, row in enumerate(table):
-        if number == MOST_ROOMS or not is_row(row, letters, rooms):
+        if number == MOST_ROOMS or not are_goals(row, letters, rooms):
             raise BadMachine(number)
 
 
@@ -58,6 +63,16 @@ def check_machine(machine):
     check_table(table, letters)
     if not are_finals(finals, len(table)):
         raise BadMachine(len(table))
+
+
+def check_room(room, rooms):
+    if not is_below(room, rooms):
+        raise BadRoom("there is no such room")
+
+
+def check_letter(letter, letters):
+    if not is_below(letter, letters):
+        raise BadLetter("there is no such letter")
 
 
 def check_word(word, letters):

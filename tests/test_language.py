@@ -18,6 +18,9 @@ BARRED = re.compile(
     r"|NamedTuple|TypedDict|TYPE_CHECKING|abstractmethod)\b|dataclass|overload|contextmanager"
 )
 
+# The classes of the interface that have methods.
+METHODS = {"Pressed": {"next", "run", "machine", "size", "picture", "tidy", "change"}}
+
 
 def files():
     return [(path.name, path.read_text("utf-8")) for path in sorted(PACKAGE.glob("*.py"))]
@@ -111,6 +114,17 @@ class TestLanguage(unittest.TestCase):
                     one = getattr(node, "arg", getattr(node, "id", ""))
                     self.assertNotIn(one, taken, f"{name}:{node.lineno}")
                     self.assertFalse(one.startswith("_"), f"{name}:{node.lineno}")
+
+    def test_no_name_is_a_method_and_an_attribute(self):
+        methods = {one.name for _, node in nodes(ast.ClassDef) for one in node.body if isinstance(one, ast.FunctionDef)}
+        for where, node in nodes(ast.Attribute):
+            if isinstance(node.ctx, ast.Store):
+                self.assertNotIn(node.attr, methods, where)
+
+    def test_listed_methods_stand_in_their_class(self):
+        classes = {node.name: node for _, node in nodes(ast.ClassDef)}
+        for name, listed in METHODS.items():
+            self.assertLessEqual(listed, {one.name for one in classes[name].body if isinstance(one, ast.FunctionDef)})
 
     def test_statements(self):
         barred = (ast.Global, ast.AsyncFunctionDef, ast.AsyncFor, ast.AsyncWith, ast.Await, ast.Import)
