@@ -4,7 +4,7 @@ A picture has four parts: for each letter its class, for each room its fault, fo
 """
 
 from pressedtables.errors import BadPicture
-from pressedtables.words import are_goals, is_below, is_goal
+from pressedtables.words import MOST_LETTERS, MOST_ROOMS, are_goals, is_below, is_goal
 
 CLASS_LIMIT = 100
 BASE_LIMIT = 10000
@@ -31,10 +31,12 @@ def are_cells(part, rooms):
     return all(is_cell(cell, rooms) for cell in part)
 
 
-def check_picture(picture, letters, rooms):
-    """Refuse what is no picture of a machine of so many letters and rooms."""
+def check_four(picture):
     if not isinstance(picture, tuple) or len(picture) != 4:
         raise BadPicture(4)
+
+
+def check_parts(picture, letters, rooms):
     classes, faults, bases, cells = picture
     if not are_numbers(classes, letters, CLASS_LIMIT):
         raise BadPicture(0)
@@ -45,6 +47,25 @@ def check_picture(picture, letters, rooms):
         raise BadPicture(2)
     if not are_cells(cells, rooms):
         raise BadPicture(3)
+
+
+def check_picture(picture, letters, rooms):
+    """Refuse what is no picture of a machine of so many letters and rooms."""
+    check_four(picture)
+    check_parts(picture, letters, rooms)
+
+
+def count_within(part, most):
+    """How many a part tells, brought within 1 and most, so that a part of another count can't be."""
+    if not isinstance(part, tuple):
+        return 1
+    return max(1, min(len(part), most))
+
+
+def check_any_picture(picture):
+    """Refuse what is no picture of any machine."""
+    check_four(picture)
+    check_parts(picture, count_within(picture[0], MOST_LETTERS), count_within(picture[1], MOST_ROOMS))
 
 
 def own_cell(picture, room, number):

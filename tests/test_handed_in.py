@@ -5,14 +5,19 @@ import unittest
 
 from pressedtables.classes import classed
 from pressedtables.errors import (
-    BadDeep, BadFaults, BadLetter, BadLists, BadMachine, BadPicture, BadRoom, BadRows, BadWays, BadWord, PressError,
+    BadDeep, BadFaults, BadLetter, BadList, BadLists, BadMachine, BadPicture, BadRoom, BadRows, BadStep, BadWays,
+    BadWord, PressError,
 )
 from pressedtables.faults import entries, shallow, tree
+from pressedtables.finder import Finder
 from pressedtables.judging import judged
 from pressedtables.laying import laid, least
 from pressedtables.listing import listed, looked
 from pressedtables.merging import merged
+from pressedtables.notes import read, written
+from pressedtables.pairs import by_pairs, run_by_pairs
 from pressedtables.plain import apart, run
+from pressedtables.plays import played
 from pressedtables.pressed import Pressed
 from tests.presses import SETS_OF_WAYS, changed
 from tests.refusals import refused
@@ -38,7 +43,8 @@ LET_BY = (
     (tree, MACHINE), (shallow, MACHINE, 0), (shallow, MACHINE, 4), (laid, ROWS), (least, ROWS), (laid, ()), (least, ()),
     (judged, MACHINE, PICTURE), (judged, OTHER, PICTURE), (judged, MACHINE, (*PICTURE[:1], (1, 0), *PICTURE[2:])),
     (listed, MACHINE), (looked, 2, FORMS, 0, 0), (looked, 2, FORMS, 1, 1), (looked, 2, FORMS, 2, 1),
-    (looked, 2, FORMS, 3, 1),
+    (looked, 2, FORMS, 3, 1), (by_pairs, MACHINE), (run_by_pairs, MACHINE, []), (run_by_pairs, MACHINE, [0, 1, 0]),
+    (run_by_pairs, MACHINE, [0, 0, 1]), (written, PICTURE), (read, written(PICTURE)),
 )
 REFUSED = (
     (classed, [2, [[1, 0]], []]), (classed, (2, ((1, 0), [0, 0]), ())), (merged, (2, ((0, 0),), [0])),
@@ -50,6 +56,12 @@ REFUSED = (
     (judged, [MACHINE], PICTURE),
     (listed, (2, [(0, 0)], ())), (looked, 2, (("same", [0]),), 0, 0), (looked, 2, FORMS, [0], 0),
     (looked, 2, FORMS, 0, [0]),
+    (by_pairs, (2, [(0, 0)], ())), (run_by_pairs, MACHINE, [0, 9]), (run_by_pairs, [MACHINE], [0]),
+    (Finder, 2, [(0,), [1]]), (Finder, 2, [(0,), (0,)]), (Finder, 0, [(0,)]), (Finder, 2, []),
+    (played, MACHINE, (), [["tidy"]]), (played, MACHINE, (), [("tidy",), ("next", [0], 0)]),
+    (played, MACHINE, ["laid"], [("tidy",)]),
+    (written, list(PICTURE)), (written, (*PICTURE[:3], [(0, 0)])), (read, "classes 0"), (read, ""),
+    (read, ["classes 0"]),
     (Pressed, MACHINE, ["classes"]), (Pressed, MACHINE, (["classes"],)), (Pressed, (2, [(0, 0)], ()), ("laid",)),
 )
 
@@ -158,6 +170,13 @@ class TestHandedIn(unittest.TestCase):
         refused(BadRoom, None, looked, 2, FORMS, True, 0)
         refused(BadLetter, None, looked, 2, FORMS, 0, False)
         refused(BadWays, None, Pressed, MACHINE, (True,))
+        self.assertEqual(refused(BadMachine, "row", by_pairs, (1, ((0,), (False,)), ())), 1)
+        self.assertEqual(refused(BadWord, "place", run_by_pairs, MACHINE, [0, True]), 1)
+        self.assertEqual(refused(BadList, "number", Finder, True, [(0,)]), 0)
+        self.assertEqual(refused(BadList, "number", Finder, 2, [(0,), (True,)]), 1)
+        self.assertEqual(refused(BadWord, "place", Finder(2, [(0,)]).found, [0, 0, True]), 2)
+        self.assertEqual(refused(BadStep, "number", played, MACHINE, (), [("tidy",), ("next", 0, False)]), 1)
+        self.assertEqual(refused(BadPicture, "part", written, ((0, True), *PICTURE[1:])), 0)
 
 
 class TestPresses(unittest.TestCase):

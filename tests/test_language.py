@@ -19,7 +19,10 @@ BARRED = re.compile(
 )
 
 # The classes of the interface that have methods.
-METHODS = {"Pressed": {"next", "run", "machine", "size", "picture", "tidy", "change"}}
+METHODS = {
+    "Pressed": {"next", "run", "machine", "size", "picture", "tidy", "change"},
+    "Finder": {"found", "suffixes", "machine", "many_steps"},
+}
 
 
 def files():
